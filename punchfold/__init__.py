@@ -1,0 +1,1 @@
+"""Sheets that are folded to packets, punched and snipped."""

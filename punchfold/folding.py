@@ -2,6 +2,7 @@
 
 from punchfold.packet import Packet
 from punchfold.packet import squares_beside
+from punchfold.reach import reached_from
 
 
 class Fold:
@@ -24,15 +25,7 @@ def on_folded_side(fold, place):
 
 def squares_along(packet, fold, square):
     """All that goes along when a square is taken hold of, as a dict of True."""
-    going = {square: True}
-    waiting = [square]
-    while len(waiting) > 0:
-        puller = waiting.pop()
-        for other in pulled_by(packet, fold, puller):
-            if other not in going:
-                going[other] = True
-                waiting.append(other)
-    return going
+    return reached_from(square, lambda puller: pulled_by(packet, fold, puller))
 
 
 def pulled_by(packet, fold, square):

@@ -44,6 +44,11 @@ def turned_over(packet):
     return Packet(packet.width, packet.height, places, turns, stacks)
 
 
+def all_squares(packet):
+    """The squares of the sheet by their numbers."""
+    return list(range(len(packet.places)))
+
+
 def stack_at(packet, place):
     """The squares at a place from the bottom up; none where nothing lies."""
     return list(packet.stacks.get(place, []))
@@ -78,9 +83,25 @@ def edge_at_side(packet, square, side):
     return side ^ turn[1]
 
 
+def join_of(square, other):
+    """The join of two squares beside one another, the lower first whichever is asked from."""
+    return (min(square, other), max(square, other))
+
+
+def all_joins(packet):
+    """The joins of the sheet in their order: those to the right by their squares' numbers, then those upward."""
+    joins = []
+    for edge in (RIGHT, UP):
+        for square in all_squares(packet):
+            other = beyond_edge(packet, square, edge)
+            if other is not None:
+                joins.append(join_of(square, other))
+    return joins
+
+
 def join_at_side(packet, square, side):
-    """The join of a square at a side of its place, the lower square first, or None where the sheet ends."""
+    """The join of a square at a side of its place, or None where the sheet ends."""
     other = beyond_edge(packet, square, edge_at_side(packet, square, side))
     if other is None:
         return None
-    return (min(square, other), max(square, other))
+    return join_of(square, other)

@@ -36,6 +36,16 @@ class Desk:
         self.present = self.earlier.pop()
 
 
+def hole_of(work, square):
+    """1 if a square has a hole, else 0."""
+    return 1 if square in work.holes else 0
+
+
+def cut_of(work, join):
+    """1 if a join is cut, else 0."""
+    return 1 if join in work.cuts else 0
+
+
 def with_packet(work, packet):
     """The same holes and cuts in a packet that was folded or turned over."""
     return Work(packet, work.holes, work.cuts)

@@ -3,6 +3,7 @@
 from punchfold.sheet import answers
 
 BIGGEST = 4294967295
+MOST_CALLS = 24
 RIGHT, LEFT, UP, DOWN = 0, 1, 2, 3
 
 
@@ -34,6 +35,30 @@ def holes():
     return [7]
 
 
+def cuts():
+    return [8]
+
+
+def pieces():
+    return [9]
+
+
+def shape(square):
+    return [10, square]
+
+
+def alike(one, other):
+    return [11, one, other]
+
+
+def through(x, y):
+    return [12, x, y]
+
+
+def aim(row):
+    return [13, len(row)] + row
+
+
 def joined(calls):
     return [number for call in calls for number in call]
 
@@ -53,6 +78,8 @@ def split(told):
 
 def ask(*calls):
     """The answers to these calls, one list each."""
+    if len(calls) > MOST_CALLS:
+        raise AssertionError("a line has at most %d calls" % MOST_CALLS)
     found = split(answers(joined(calls)))
     if len(found) != len(calls):
         raise AssertionError("%d calls, %d answers" % (len(calls), len(found)))
@@ -64,9 +91,9 @@ def last(*calls):
     return ask(*calls)[-1]
 
 
-def holes_row(*calls):
-    """The row of holes after these calls."""
-    answer = last(*calls, holes())
+def row(*calls):
+    """The row that the last of these calls answers."""
+    answer = last(*calls)
     if answer[0] != 0 or answer[1] != len(answer) - 2:
         raise AssertionError("no row: %r" % (answer,))
     return answer[2:]
@@ -74,7 +101,7 @@ def holes_row(*calls):
 
 def holed(*calls):
     """The squares that have holes after these calls."""
-    return [square for square, hole in enumerate(holes_row(*calls)) if hole == 1]
+    return [square for square, hole in enumerate(row(*calls, holes())) if hole == 1]
 
 
 def stack(x, y, *calls):

@@ -1,7 +1,8 @@
 """The document's words once more, square by square and without any shortcut, to hold the program against.
 
 Edges are found by where their middles lie (in halves of a square), layers by numbers, what goes along by
-trying all squares again until none is added.
+trying all squares again until none is added, labels by lowering them until none can be lowered, and what is
+aimed at by punching a copy and looking at it.
 """
 
 import copy
@@ -132,6 +133,80 @@ class Model:
     def holes(self):
         return [0, len(self.squares)] + [square.hole for square in self.squares]
 
+    def joins(self):
+        found = []
+        for edge in ("right", "up"):
+            for n, square in enumerate(self.squares):
+                other = self.joined_to(square, edge)
+                if other is not None:
+                    found.append([n, self.squares.index(other)])
+        return found
+
+    def cut_row(self):
+        row = [int(join in self.cuts) for join in self.joins()]
+        return [0, len(row)] + row
+
+    def labels(self):
+        labels = list(range(len(self.squares)))
+        lowered = True
+        while lowered:
+            lowered = False
+            for c, d in self.joins():
+                if [c, d] not in self.cuts and labels[c] != labels[d]:
+                    labels[c] = labels[d] = min(labels[c], labels[d])
+                    lowered = True
+        return labels
+
+    def pieces(self):
+        return [0, len(self.squares)] + self.labels()
+
+    def shape_of(self, number):
+        labels = self.labels()
+        piece = [one for one, label in zip(self.squares, labels) if label == labels[number]]
+        ways = []
+        for row_sign in (1, -1):
+            for column_sign in (1, -1):
+                for swapped in (False, True):
+                    cells = [[one.row * row_sign, one.column * column_sign, one.hole] for one in piece]
+                    if swapped:
+                        cells = [[column, row, hole] for row, column, hole in cells]
+                    low = min(cell[0] for cell in cells)
+                    left = min(cell[1] for cell in cells)
+                    cells = sorted([row - low, column - left, hole] for row, column, hole in cells)
+                    ways.append([number for cell in cells for number in cell])
+        return sorted(ways)[0]
+
+    def shape(self, number):
+        if number >= len(self.squares):
+            return [-1]
+        found = self.shape_of(number)
+        return [0, len(found)] + found
+
+    def alike(self, one, other):
+        if one >= len(self.squares) or other >= len(self.squares):
+            return [-1]
+        return [0, int(self.shape_of(one) == self.shape_of(other))]
+
+    def through(self, x, y):
+        there = self.at(x, y)
+        if not there:
+            return [-2]
+        return [0, sum(1 - square.hole for square in there)]
+
+    def aim(self, count, *row):
+        wanted = list(row)
+        if count != len(self.squares) or set(wanted) - {0, 1}:
+            return [-1]
+        # Where a wanted hole is missing there is no way but to punch.
+        missing = [one for one, want in zip(self.squares, wanted) if want and not one.hole]
+        places = sorted({(one.y, one.x) for one in missing})
+        tried = copy.deepcopy(self)
+        for y, x in places:
+            tried.punch(x, y, len(tried.at(x, y)), 1)
+        if [one.hole for one in tried.squares] != wanted:
+            return [-2]
+        return [0, 2 * len(places)] + [number for y, x in places for number in (x, y)]
+
     def faults(self):
         """What of the packet is not right by the first two of the document's conditions."""
         found = []
@@ -184,8 +259,11 @@ class Line:
                 return [-2]
             self.model = self.earlier.pop()
             return [0, len(self.earlier)]
-        if number == 7:
-            return self.model.holes()
+        looks = {
+            7: self.model.holes, 8: self.model.cut_row, 9: self.model.pieces, 10: self.model.shape,
+            11: self.model.alike, 12: self.model.through, 13: self.model.aim}
+        if number in looks:
+            return looks[number](*rest)
         before = copy.deepcopy(self.model)
         answer = {2: self.model.fold, 3: self.model.turn, 4: self.model.punch, 5: self.model.snip}[number](*rest)
         if answer[0] == 0:

@@ -2,20 +2,40 @@
 
 import unittest
 
-from asking import DOWN, LEFT, RIGHT, UP, ask, back, fold, holes, last, punch, sheet, snip, turn
+from asking import (
+    DOWN, LEFT, RIGHT, UP, aim, alike, ask, back, cuts, fold, holes, last, pieces, punch, shape, sheet, snip, through,
+    turn)
+
+SQUARES = range(8)
+
+
+def looks():
+    """The calls that change nothing, and ask for all that there is of eight squares."""
+    found = [holes(), cuts(), pieces()]
+    found += [shape(square) for square in SQUARES]
+    found += [alike(one, other) for one in SQUARES for other in SQUARES]
+    found += [through(x, y) for x in range(-4, 5) for y in range(-1, 3)]
+    found += [aim([1] * 8), aim([0] * 8)]
+    found += [aim([int(one in (first, second)) for one in SQUARES]) for first in SQUARES for second in SQUARES]
+    return found
 
 
 def seen(calls):
-    """All that can be found out about a sheet after these calls, without changing it."""
-    found = [last(*calls, holes()), last(*calls, back())]
+    """All that can be found out about a sheet after these calls."""
+    found = [last(*calls, look) for look in looks()]
+    found.append(last(*calls, back()))
     for x in range(-4, 5):
         for y in range(-1, 3):
             for side in (RIGHT, LEFT, UP, DOWN):
-                found.append(last(*calls, snip(x, y, side)))
+                found.append(ask(*calls, snip(x, y, side), cuts())[-2:])
             n = 1
             while last(*calls, punch(x, y, n, 1)) != [-2]:
                 found.append((x, y, n, last(*calls, punch(x, y, n, 1), holes())))
                 n += 1
+    for up in (0, 1):
+        for k in range(-3, 4):
+            for high in (0, 1):
+                found.extend(last(*calls, fold(up, k, high, 1, square)) for square in SQUARES)
     return found
 
 
@@ -39,7 +59,7 @@ class BackTest(unittest.TestCase):
     def test_gone_back_all_is_as_it_was(self):
         for length in range(1, 12):
             expected = seen(self.MIXED[:length])
-            for more in (1, 2):
+            for more in (1, 2, 3):
                 calls = self.MIXED[:length + more] + [back()] * more
                 self.assertEqual(seen(calls), expected)
 
@@ -60,8 +80,10 @@ class BackTest(unittest.TestCase):
     def test_nothing_to_go_back_from(self):
         self.assertEqual(ask(sheet(2, 2), back(), back(), holes()), [[0], [-2], [-2], [0, 4, 0, 0, 0, 0]])
 
-    def test_looking_at_holes_is_nothing_to_go_back_from(self):
-        self.assertEqual(ask(sheet(2, 2), holes(), back()), [[0], [0, 4, 0, 0, 0, 0], [-2]])
+    def test_looking_is_nothing_to_go_back_from(self):
+        for look in looks():
+            self.assertEqual(last(sheet(4, 2), look, back()), [-2])
+            self.assertEqual(last(*self.MIXED, look, back()), [0, len(self.MIXED) - 2])
 
 
 if __name__ == "__main__":

@@ -98,6 +98,19 @@ class LanguageTest(unittest.TestCase):
         for path, node in nodes(ast.arg):
             self.assertFalse(hasattr(builtins, node.arg), (path, node.lineno, node.arg))
 
+    def test_no_local_is_called_like_an_import_a_class_or_a_function_of_its_file(self):
+        for path in files():
+            tree = ast.parse(path.read_text("ascii"))
+            taken = {node.name for node in tree.body if isinstance(node, (ast.FunctionDef, ast.ClassDef))}
+            for node in tree.body:
+                if isinstance(node, ast.ImportFrom):
+                    taken |= {alias.name for alias in node.names}
+            for node in ast.walk(tree):
+                if isinstance(node, ast.arg):
+                    self.assertNotIn(node.arg, taken, (path.name, node.lineno))
+                if isinstance(node, ast.Name) and isinstance(node.ctx, ast.Store):
+                    self.assertNotIn(node.id, taken, (path.name, node.lineno))
+
     def test_methods(self):
         own = {node.name for path, node in nodes(ast.FunctionDef)}
         for path, node in nodes(ast.Call):

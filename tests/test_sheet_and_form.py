@@ -2,7 +2,9 @@
 
 import unittest
 
-from asking import BIGGEST, ask, back, fold, holed, holes, joined, last, punch, sheet, snip, stacks, turn
+from asking import (
+    BIGGEST, aim, alike, ask, back, cuts, fold, holed, holes, joined, last, pieces, punch, shape, sheet, snip, stacks,
+    through, turn)
 from punchfold.sheet import answers
 
 
@@ -42,11 +44,16 @@ class SheetTest(unittest.TestCase):
 
 class BeforeAnySheetTest(unittest.TestCase):
     def test_all_calls_but_sheet_are_refused(self):
-        for call in (fold(1, 1, 1, 1, 0), turn(), punch(0, 0, 1, 1), snip(0, 0, 0), back(), holes()):
+        for call in (
+                fold(1, 1, 1, 1, 0), turn(), punch(0, 0, 1, 1), snip(0, 0, 0), back(), holes(), cuts(), pieces(),
+                shape(0), alike(0, 0), through(0, 0), aim([0])):
             self.assertEqual(ask(call), [[-9]])
+            self.assertEqual(ask(sheet(0, 1), call, sheet(1, 1), holes()), [[-1], [-9], [0], [0, 1, 0]])
 
     def test_it_counts_before_every_other_refusal(self):
-        for call in (fold(2, 1, 2, 2, 99), punch(0, 0, 0, 2), punch(0, 0, 0, 1), snip(0, 0, 4), snip(9, 9, 0)):
+        for call in (
+                fold(2, 1, 2, 2, 99), punch(0, 0, 0, 2), punch(0, 0, 0, 1), snip(0, 0, 4), snip(9, 9, 0),
+                shape(BIGGEST), alike(36, 0), alike(0, 36), through(-100, 100), aim([]), aim([2]), aim([1] * 60)):
             self.assertEqual(ask(call), [[-9]])
 
     def test_the_calls_behind_are_answered(self):
@@ -54,9 +61,11 @@ class BeforeAnySheetTest(unittest.TestCase):
 
 
 class FormTest(unittest.TestCase):
+    # All thirteen calls, some of them refused.
     CALLS = joined([
-        turn(), sheet(2, 2), fold(1, 1, 1, 1, 1), turn(), punch(0, 0, 1, 1), snip(0, 0, 1), snip(0, 0, 4),
-        fold(0, 1, 1, 1, 2), holes(), back(), back(), holes()])
+        turn(), sheet(2, 2), fold(1, 1, 1, 1, 1), turn(), punch(0, 0, 1, 1), through(0, 0), aim([1, 1, 0, 0]),
+        aim([1, 1, 1]), snip(0, 0, 1), snip(0, 1, 1), snip(0, 0, 4), fold(0, 1, 1, 1, 2), cuts(), pieces(), shape(2),
+        shape(4), alike(0, 1), alike(0, 4), holes(), back(), back(), cuts(), back(), holes()])
 
     def test_each_answer_stands_behind_its_count(self):
         self.assertEqual(answers(self.CALLS), [
@@ -66,10 +75,22 @@ class FormTest(unittest.TestCase):
             1, 0,
             2, 0, 1,
             2, 0, 1,
+            4, 0, 2, 0, 0,
+            1, -1,
+            2, 0, 1,
+            2, 0, 1,
             1, -1,
             1, -4,
+            6, 0, 4, 1, 1, 0, 0,
+            6, 0, 4, 0, 1, 0, 1,
+            8, 0, 6, 0, 0, 0, 0, 1, 1,
+            1, -1,
+            2, 0, 0,
+            1, -1,
             6, 0, 4, 1, 0, 0, 0,
+            2, 0, 4,
             2, 0, 3,
+            6, 0, 4, 0, 0, 0, 0,
             2, 0, 2,
             6, 0, 4, 0, 0, 0, 0])
 
